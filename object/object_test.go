@@ -1,0 +1,35 @@
+package object
+
+import (
+	"testing"
+
+	"spool/ops"
+)
+
+const exit = "\xc2\x00\x00\x00\x00\x00\x00\x00"
+
+func TestThereAndBack(t *testing.T) {
+	for _, o := range []string{
+		"SPOL\x01\x00\x00\x00\x00",
+		"SPOL\x01\x01\x01m\x01\x02\x03\x00\x00\x00",
+		"SPOL\x01\x00\x01\x01f\x01\x00" + exit + "\x00\x00",
+		"SPOL\x01\x00\x01\x01f\x02\x00\xc1\x10\x00\x00\x00\x00\x00\x00" + exit + "\x01\x00\x00\x00\x00\x01g",
+	} {
+		p, ok := Decode(ops.Table(), o)
+		if !ok || Encode(p) != o {
+			t.Errorf("%x: %v, %v, %x", o, p, ok, Encode(p))
+		}
+		for n := range len(o) {
+			if p, ok := Decode(ops.Table(), o[:n]); ok || p.Maps != nil || p.Funcs != nil {
+				t.Errorf("%d bytes of %x: %v, %v", n, o, p, ok)
+			}
+		}
+	}
+}
+
+func TestSlots(t *testing.T) {
+	p, ok := Decode(ops.Table(), "SPOL\x01\x00\x01\x01f\x03\x00\xc0\x03\x00\x00\x02\x00\x00\x00\x00\x00\x00\x00\x01\x00\x00\x00"+exit+"\x00\x00")
+	if !ok || len(p.Funcs) != 1 || len(p.Funcs[0].Code) != 2 || p.Funcs[0].Slots() != 3 {
+		t.Errorf("%v, %v", p, ok)
+	}
+}
