@@ -2,9 +2,6 @@
 package asm
 
 import (
-	"slices"
-	"strings"
-
 	"spool/api"
 	"spool/object"
 	"spool/ops"
@@ -24,7 +21,7 @@ func Assemble(text string) (string, api.Errno, int) {
 	if e, at := firstFault(lines, all); e != api.OK {
 		return "", e, at
 	}
-	return object.Encode(build(lines, all)), api.OK, 0
+	return object.EncodeObject(build(lines, all)), api.OK, 0
 }
 
 // build makes the program of a text without faults.
@@ -48,8 +45,7 @@ func build(lines []line, all outline) object.Program {
 			slot += i.Op.Slots
 		}
 	}
-	slices.SortFunc(p.Maps, func(a, b object.Map) int { return strings.Compare(a.Name, b.Name) })
-	slices.SortFunc(p.Funcs, func(a, b object.Func) int { return strings.Compare(a.Name, b.Name) })
+	p.Sort()
 	return p
 }
 

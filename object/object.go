@@ -1,14 +1,22 @@
-// Package object turns programs into the bytes of objects, and back.
+// Package object turns programs into the bytes of objects and images, and
+// those of objects back.
 package object
 
-import "spool/ops"
+import (
+	"slices"
+	"strings"
+
+	"spool/ops"
+)
 
 const (
 	magic      = "SPOL"
 	objectKind = 1
+	imageKind  = 2
 )
 
-// Program is what an object holds. Maps and functions rise by their names.
+// Program is what an object or an image holds. Maps and functions rise by
+// their names.
 type Program struct {
 	Maps  []Map
 	Funcs []Func
@@ -20,8 +28,8 @@ type Map struct {
 	Key, Value, Entries byte
 }
 
-// Func is a function: its instructions name the functions and maps to which
-// they refer.
+// Func is a function. Its instructions name the functions and maps to which
+// they refer; in an image the numbers of these stand in their place.
 type Func struct {
 	Name string
 	Code []ops.Instr
@@ -36,9 +44,24 @@ func (f Func) Slots() int {
 	return n
 }
 
-// Encode makes the bytes of an object.
-func Encode(p Program) string {
-	out := append([]byte(magic), objectKind, byte(len(p.Maps)))
+// Sort puts the maps and the functions in their order.
+func (p Program) Sort() {
+	slices.SortFunc(p.Maps, func(a, b Map) int { return strings.Compare(a.Name, b.Name) })
+	slices.SortFunc(p.Funcs, func(a, b Func) int { return strings.Compare(a.Name, b.Name) })
+}
+
+// EncodeObject makes the bytes of an object.
+func EncodeObject(p Program) string {
+	return string(appendReferences(encode(objectKind, p), p.Funcs))
+}
+
+// EncodeImage makes the bytes of an image.
+func EncodeImage(p Program) string {
+	return string(encode(imageKind, p))
+}
+
+func encode(kind byte, p Program) []byte {
+	out := append([]byte(magic), kind, byte(len(p.Maps)))
 	for _, m := range p.Maps {
 		out = append(appendName(out, m.Name), m.Key, m.Value, m.Entries)
 	}
@@ -51,7 +74,7 @@ func Encode(p Program) string {
 			out = i.AppendSlots(out)
 		}
 	}
-	return string(appendReferences(out, p.Funcs))
+	return out
 }
 
 func appendReferences(out []byte, funcs []Func) []byte {

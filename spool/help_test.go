@@ -36,7 +36,18 @@ func two(n int) string { return string([]byte{byte(n), byte(n >> 8)}) }
 func named(name string) string { return string([]byte{byte(len(name))}) + name }
 
 func object(maps []sized, funcs []fun, refs ...ref) string {
-	out := "SPOL\x01" + string([]byte{byte(len(maps))})
+	out := "SPOL\x01" + inBoth(maps, funcs) + two(len(refs))
+	for _, r := range refs {
+		out += string([]byte{byte(r.function)}) + two(r.slot) + named(r.name)
+	}
+	return out
+}
+
+func image(maps []sized, funcs []fun) string { return "SPOL\x02" + inBoth(maps, funcs) }
+
+// inBoth: what objects and images have in the same form.
+func inBoth(maps []sized, funcs []fun) string {
+	out := string([]byte{byte(len(maps))})
 	for _, m := range maps {
 		out += named(m.name) + string([]byte{byte(m.key), byte(m.value), byte(m.entries)})
 	}
@@ -46,10 +57,6 @@ func object(maps []sized, funcs []fun, refs ...ref) string {
 	}
 	for _, f := range funcs {
 		out += f.slots
-	}
-	out += two(len(refs))
-	for _, r := range refs {
-		out += string([]byte{byte(r.function)}) + two(r.slot) + named(r.name)
 	}
 	return out
 }
@@ -101,4 +108,18 @@ func wantBoth(t *testing.T, text, object string) {
 	t.Helper()
 	wantObject(t, text, object)
 	wantText(t, object, text)
+}
+
+func wantImage(t *testing.T, want string, objects ...string) {
+	t.Helper()
+	if i, e, at := spool.Link(objects...); i != want || e != api.OK || at != 0 {
+		t.Errorf("P5: Link(%x) = %x, %d, %d, want %x", objects, i, e, at, want)
+	}
+}
+
+func wantUnlinked(t *testing.T, want api.Errno, number int, objects ...string) {
+	t.Helper()
+	if i, e, at := spool.Link(objects...); i != "" || e != want || at != number {
+		t.Errorf("P5: Link(%x) = %x, %d, %d, want error %d of object %d", objects, i, e, at, want, number)
+	}
 }

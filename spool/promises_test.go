@@ -127,7 +127,28 @@ func TestTextsOfEveryKind(t *testing.T) {
 	}
 }
 
-// TestSameAnswers: P2: calls ahead, and calls at the same time, change nothing.
+// wantSame: P2: calls ahead, and calls at the same time, change nothing in
+// what is answered to any of n questions.
+func wantSame[answer comparable](t *testing.T, n int, ask func(question int) answer) {
+	t.Helper()
+	var first []answer
+	for i := range n {
+		first = append(first, ask(i))
+	}
+	var all sync.WaitGroup
+	for k := range 8 {
+		all.Go(func() {
+			for step := range 50 {
+				i := (step*(k+1) + k) % n
+				if a := ask(i); a != first[i] {
+					t.Errorf("P2: question %d: %v, and then %v", i, first[i], a)
+				}
+			}
+		})
+	}
+	all.Wait()
+}
+
 func TestSameAnswers(t *testing.T) {
 	texts := []string{ampleText, "func f\nexit", "map a 1 1 1\nfunc b\nx:\nja x", "func f\nja x", "?", "map a 1 1 1\nmap a 1 1 1", ""}
 	type answer struct {
@@ -135,27 +156,11 @@ func TestSameAnswers(t *testing.T) {
 		e            api.Errno
 		at           int
 	}
-	ask := func(s string) (a answer) {
-		a.object, a.e, a.at = spool.Assemble(s)
+	wantSame(t, len(texts), func(n int) (a answer) {
+		a.object, a.e, a.at = spool.Assemble(texts[n])
 		a.told, _ = spool.Disassemble(a.object)
 		return a
-	}
-	var first []answer
-	for _, s := range texts {
-		first = append(first, ask(s))
-	}
-	var all sync.WaitGroup
-	for k := range 8 {
-		all.Go(func() {
-			for n := range 50 {
-				i := (n*(k+1) + k) % len(texts)
-				if a := ask(texts[i]); a != first[i] {
-					t.Errorf("P2: %q: %v, and then %v", texts[i], first[i], a)
-				}
-			}
-		})
-	}
-	all.Wait()
+	})
 }
 
 // TestNothingKept: P2: what is handed in may change when the call is over.

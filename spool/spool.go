@@ -5,6 +5,7 @@ import (
 	"spool/api"
 	"spool/asm"
 	"spool/disasm"
+	"spool/link"
 )
 
 // Machine runs an image.
@@ -17,7 +18,7 @@ func Assemble(text string) (string, api.Errno, int) { return asm.Assemble(text) 
 func Disassemble(object string) (string, api.Errno) { return disasm.Disassemble(object) }
 
 // Link makes an image of objects (P5).
-func Link(objects ...string) (string, api.Errno, int) { return "", api.OK, 0 }
+func Link(objects ...string) (string, api.Errno, int) { return link.Link(objects) }
 
 // Load makes a machine of an image (P6).
 func Load(image string) (*Machine, api.Errno) { return nil, api.OK }
