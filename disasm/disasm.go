@@ -12,7 +12,7 @@ import (
 
 // Disassemble makes a text of an object's bytes.
 func Disassemble(bytes string) (string, api.Errno) {
-	p, ok := object.Decode(ops.Table(), bytes)
+	p, ok := object.DecodeObject(ops.Table(), bytes)
 	if !ok {
 		return "", api.ErrBytes
 	}

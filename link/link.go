@@ -32,7 +32,7 @@ func decode(objects []string) []object.Program {
 	table := ops.Table()
 	var out []object.Program
 	for _, bytes := range objects {
-		p, ok := object.Decode(table, bytes)
+		p, ok := object.DecodeObject(table, bytes)
 		if !ok {
 			break
 		}

@@ -13,14 +13,25 @@ type reader struct {
 	bad  bool
 }
 
-// Decode reads an object; false, if it is no right one.
-func Decode(table []*ops.Op, object string) (Program, bool) {
-	r := &reader{rest: object}
+// DecodeObject reads an object; false, if it is no right one.
+func DecodeObject(table []*ops.Op, object string) (Program, bool) {
+	return decode(table, objectKind, object, (*reader).references)
+}
+
+// DecodeImage reads an image; false, if it is no right one.
+func DecodeImage(table []*ops.Op, image string) (Program, bool) {
+	return decode(table, imageKind, image, (*reader).numbers)
+}
+
+// decode reads what both have; the rest of it reads or looks at what only one
+// of them has.
+func decode(table []*ops.Op, kind int, bytes string, rest func(r *reader, p Program)) (Program, bool) {
+	r := &reader{rest: bytes}
 	r.want(r.take(len(magic)) == magic)
-	r.want(r.one() == objectKind)
+	r.want(r.one() == kind)
 	p := Program{Maps: r.maps()}
 	p.Funcs = r.funcs(table)
-	r.references(p)
+	rest(r, p)
 	r.want(r.rest == "")
 	if r.bad {
 		return Program{}, false
@@ -175,4 +186,22 @@ func hasMap(maps []Map, name string) bool {
 		}
 	}
 	return false
+}
+
+// numbers looks at those of the functions and maps to which instructions refer.
+func (r *reader) numbers(p Program) {
+	for _, f := range p.Funcs {
+		for _, i := range f.Code {
+			switch i.Refers() {
+			case ops.AFunc:
+				r.want(isNumberOf(p.Funcs, i.Number))
+			case ops.AMap:
+				r.want(isNumberOf(p.Maps, i.Number))
+			}
+		}
+	}
+}
+
+func isNumberOf[T any](list []T, n int32) bool {
+	return n >= 0 && int(n) < len(list)
 }

@@ -1,5 +1,5 @@
 // Package object turns programs into the bytes of objects and images, and
-// those of objects back.
+// back.
 package object
 
 import (

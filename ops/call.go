@@ -1,8 +1,23 @@
 package ops
 
-var helpers = [4]string{"get", "put", "del", "log"}
+import "spool/run"
 
 const firstHelper = 1
+
+// helper is what `help` calls.
+type helper struct {
+	word string
+	do   func(r *run.Run)
+}
+
+func helpers() [4]helper {
+	return [4]helper{
+		{"get", (*run.Run).Get},
+		{"put", (*run.Run).Put},
+		{"del", (*run.Run).Del},
+		{"log", (*run.Run).Log},
+	}
+}
 
 func readCall(r *Reading) bool {
 	if r.word == "call" {
@@ -12,8 +27,8 @@ func readCall(r *Reading) bool {
 		return ok
 	}
 	asked := r.line.Word()
-	for n, helper := range helpers {
-		if asked == helper {
+	for n, h := range helpers() {
+		if asked == h.word {
 			r.instr.Number = int32(firstHelper + n)
 			return true
 		}
@@ -25,7 +40,7 @@ func writeCall(i Instr) string {
 	if i.S == sourceName {
 		return "call " + i.Name
 	}
-	return "help " + helpers[i.Number-firstHelper]
+	return "help " + helpers()[i.Number-firstHelper].word
 }
 
 func needCall(i Instr) bool {
@@ -35,5 +50,13 @@ func needCall(i Instr) bool {
 	if i.S == sourceName {
 		return true
 	}
-	return i.S == sourceNumber && i.Number >= firstHelper && i.Number < firstHelper+int32(len(helpers))
+	return i.S == sourceNumber && i.Number >= firstHelper && i.Number < firstHelper+int32(len(helpers()))
+}
+
+func doCall(r *run.Run, i Instr) {
+	if i.S == sourceName {
+		r.Call(int(i.Number))
+		return
+	}
+	helpers()[i.Number-firstHelper].do(r)
 }

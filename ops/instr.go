@@ -1,5 +1,5 @@
 // Package ops tells of the machine's instructions: one table says of each op
-// how it is written and what it needs.
+// how it is written, what it needs and what it does.
 package ops
 
 // SlotSize is how many bytes a slot has.
@@ -15,7 +15,7 @@ type Instr struct {
 	Number int32
 	High   int32  // the second slot's number
 	Label  string // in a text: where the jump leads
-	Name   string // in a text or an object: the function, the map
+	Name   string // in a text or an object: the function, the map; in an image the number is theirs
 }
 
 // Refers tells what the instruction's name is the name of.
@@ -34,6 +34,11 @@ func (i Instr) Target(slot int) int {
 // JumpTo is the jump that leads from an instruction at a slot to the target.
 func (i Instr) JumpTo(slot, target int) int16 {
 	return int16(target - slot - i.Op.Slots)
+}
+
+// wide is the number of 64 bits of two slots.
+func (i Instr) wide() uint64 {
+	return uint64(uint32(i.High))<<32 | uint64(uint32(i.Number))
 }
 
 // AppendSlots adds the instruction's slots to the bytes.

@@ -12,7 +12,7 @@ func TestTable(t *testing.T) {
 	rows := map[byte]int{}
 	for _, op := range Table() {
 		rows[op.Code]++
-		if len(op.Words) == 0 || op.Slots < 1 || op.Read == nil || op.Write == nil || op.Needs == nil {
+		if len(op.Words) == 0 || op.Slots < 1 || op.Read == nil || op.Write == nil || op.Needs == nil || op.Do == nil {
 			t.Errorf("op %d: %v", op.Code, op)
 		}
 	}

@@ -161,7 +161,7 @@ func writeWide(i Instr) string {
 	if i.S == sourceName {
 		return "map " + i.Name
 	}
-	return strconv.FormatUint(uint64(uint32(i.High))<<32|uint64(uint32(i.Number)), 10)
+	return strconv.FormatUint(i.wide(), 10)
 }
 
 func registerText(n byte) string { return "r" + strconv.Itoa(int(n)) }

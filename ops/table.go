@@ -1,6 +1,10 @@
 package ops
 
-import "slices"
+import (
+	"slices"
+
+	"spool/run"
+)
 
 // Sort is what a name in an instruction is the name of.
 type Sort int
@@ -36,13 +40,13 @@ type Op struct {
 	Read  func(r *Reading) bool // what stands behind the word; false, if it is no such instruction
 	Write func(i Instr) string
 	Needs func(i Instr) bool // all that it needs is right, and all else 0
+	Do    doing
 }
 
-var (
-	arithWords = [12]string{"mov", "add", "sub", "mul", "div", "mod", "and", "or", "xor", "lsh", "rsh", "ash"}
-	jumpWords  = [11]string{"jeq", "jne", "jgt", "jge", "jlt", "jle", "jsgt", "jsge", "jslt", "jsle", "jset"}
-	sizeWords  = [4]string{"1", "2", "4", "8"}
-)
+// doing is what an instruction does in a run.
+type doing func(r *run.Run, i Instr)
+
+var sizeWords = [4]string{"1", "2", "4", "8"}
 
 const (
 	firstArith = 1
@@ -81,7 +85,7 @@ func byCode(table []*Op, code byte) *Op {
 }
 
 // row makes an op of one slot from its word and the parts behind it.
-func row(code byte, word string, parts []part) *Op {
+func row(code byte, word string, parts []part, do doing) *Op {
 	return &Op{
 		Code:  code,
 		Words: []string{word},
@@ -89,6 +93,7 @@ func row(code byte, word string, parts []part) *Op {
 		Read:  readParts(parts),
 		Write: writeParts(word, parts),
 		Needs: needParts(parts),
+		Do:    do,
 	}
 }
 
@@ -96,27 +101,31 @@ func arithOps() []*Op {
 	registers := []part{result(), comma(), source()}
 	numbers := []part{result(), comma(), number()}
 	var out []*Op
-	for n, word := range arithWords {
+	for n, a := range ariths() {
 		code := firstArith + byte(n)
 		out = append(out,
-			row(code, word, registers),
-			row(code+in32Bits, word+"32", registers),
-			row(code+withNumber, word, numbers),
-			row(code+in32Bits+withNumber, word+"32", numbers))
+			row(code, a.word, registers, become(a.in64, register)),
+			row(code+in32Bits, a.word+"32", registers, become(a.in32, register)),
+			row(code+withNumber, a.word, numbers, become(a.in64, written)),
+			row(code+in32Bits+withNumber, a.word+"32", numbers, become(a.in32, written)))
 	}
 	alone := []part{result()}
-	return append(out, row(negCode, "neg", alone), row(negCode+in32Bits, "neg32", alone))
+	return append(out,
+		row(negCode, "neg", alone, become(in64(negated), written)),
+		row(negCode+in32Bits, "neg32", alone, become(in32(negated), written)))
 }
 
 func jumpOps() []*Op {
 	registers := []part{operand(), comma(), source(), comma(), label()}
 	numbers := []part{operand(), comma(), number(), comma(), label()}
-	plain := row(jaCode, "ja", []part{label()})
+	plain := row(jaCode, "ja", []part{label()}, goOn)
 	plain.Ends = true
 	out := []*Op{plain}
-	for n, word := range jumpWords {
+	for n, j := range jumps() {
 		code := firstJump + byte(n)
-		out = append(out, row(code, word, registers), row(code+withNumber, word, numbers))
+		out = append(out,
+			row(code, j.word, registers, goOnIf(j.so, register)),
+			row(code+withNumber, j.word, numbers, goOnIf(j.so, written)))
 	}
 	for _, op := range out {
 		op.Jumps = true
@@ -129,18 +138,18 @@ func memoryOps() []*Op {
 	stores := []part{open(), operand(), offset(), shut(), comma(), source()}
 	numbers := []part{open(), operand(), offset(), shut(), comma(), number()}
 	var out []*Op
-	for n, size := range sizeWords {
-		code := firstLoad + byte(n)
+	for n, word := range sizeWords {
+		code, size := firstLoad+byte(n), 1<<n
 		out = append(out,
-			row(code, "ld"+size, loads),
-			row(code+nextMemory, "st"+size, stores),
-			row(code+2*nextMemory, "st"+size, numbers))
+			row(code, "ld"+word, loads, load(size)),
+			row(code+nextMemory, "st"+word, stores, store(size, register)),
+			row(code+2*nextMemory, "st"+word, numbers, store(size, written)))
 	}
 	return out
 }
 
 func otherOps() []*Op {
-	wide := row(wideCode, "wide", []part{result(), comma(), wideNumber()})
+	wide := row(wideCode, "wide", []part{result(), comma(), wideNumber()}, doWide)
 	wide.Slots = 2
 	wide.Refers = AMap
 	call := &Op{
@@ -151,8 +160,9 @@ func otherOps() []*Op {
 		Read:   readCall,
 		Write:  writeCall,
 		Needs:  needCall,
+		Do:     doCall,
 	}
-	exit := row(exitCode, "exit", nil)
+	exit := row(exitCode, "exit", nil, doExit)
 	exit.Ends = true
 	return []*Op{wide, call, exit}
 }

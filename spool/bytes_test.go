@@ -28,17 +28,22 @@ func TestAmple(t *testing.T) {
 	wantBoth(t, ampleText, ample())
 }
 
-func TestCutShortAndMore(t *testing.T) {
-	for _, o := range []string{ample(), only(exit), object(nil, nil), object([]sized{{"m", 1, 1, 1}}, nil)} {
+// cutAndMore: each of the list with bytes missing at an end, and with more.
+func cutAndMore(list []string, use func(s string)) {
+	for _, o := range list {
 		for n := range len(o) {
-			wantBad(t, o[:n])
-			wantBad(t, o[n+1:])
+			use(o[:n])
+			use(o[n+1:])
 		}
 		for _, more := range []string{"\x00", "\x01", "\xff", " ", o, exit} {
-			wantBad(t, o+more)
-			wantBad(t, more+o)
+			use(o + more)
+			use(more + o)
 		}
 	}
+}
+
+func TestCutShortAndMore(t *testing.T) {
+	cutAndMore([]string{ample(), only(exit), object(nil, nil), object([]sized{{"m", 1, 1, 1}}, nil)}, func(s string) { wantBad(t, s) })
 }
 
 // TestOneByteChanged: what is still right is told, and its text is the source

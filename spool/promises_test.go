@@ -73,27 +73,33 @@ func TestAnyTexts(t *testing.T) {
 	}
 }
 
-func TestAnyBytes(t *testing.T) {
-	t.Parallel()
-	r := rand.New(rand.NewSource(2))
-	base := []string{ample(), only(exit), object(nil, nil), only(call+exit, ref{0, 0, "g"})}
+// anyBytes: at random: those of the base with some changed, and others, which
+// begin with the head or not.
+func anyBytes(seed int64, head string, base []string, use func(s string)) {
+	r := rand.New(rand.NewSource(seed))
 	for range 6000 {
 		b := []byte(base[r.Intn(len(base))])
 		for range 1 + r.Intn(4) {
 			b[r.Intn(len(b))] = byte(r.Intn(256) & r.Intn(256))
 		}
-		checkDisassemble(t, string(b[:len(b)-r.Intn(2)*r.Intn(len(b))]))
+		use(string(b[:len(b)-r.Intn(2)*r.Intn(len(b))]))
 	}
 	for range 3000 {
 		b := make([]byte, r.Intn(60))
 		r.Read(b)
-		checkDisassemble(t, string(b))
-		checkDisassemble(t, "SPOL\x01"+string(b))
-		checkDisassemble(t, "SPOL\x01\x00\x01\x01f\x01\x00"+string(b))
+		use(string(b))
+		use(head + string(b))
+		use(head + "\x00\x01\x01f\x01\x00" + string(b))
 	}
-	for _, s := range []string{"", strings.Repeat("\x00", 1<<20), strings.Repeat("\xff", 1<<20), "SPOL\x01" + strings.Repeat("\xff", 1<<20), "SPOL\x01\x00\xff" + strings.Repeat("\x01f\xff\xff", 1<<18)} {
-		checkDisassemble(t, s)
+	for _, s := range []string{"", strings.Repeat("\x00", 1<<20), strings.Repeat("\xff", 1<<20), head + strings.Repeat("\xff", 1<<20), head + "\x00\xff" + strings.Repeat("\x01f\xff\xff", 1<<18)} {
+		use(s)
 	}
+}
+
+func TestAnyBytes(t *testing.T) {
+	t.Parallel()
+	base := []string{ample(), only(exit), object(nil, nil), only(call+exit, ref{0, 0, "g"})}
+	anyBytes(2, "SPOL\x01", base, func(s string) { checkDisassemble(t, s) })
 }
 
 // TestTextsOfEveryKind: right programs at random, told and read again.
